@@ -1,0 +1,1 @@
+"""One order out of many, whole: booths, their messages, and the office that hears them."""

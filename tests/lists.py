@@ -3,6 +3,7 @@
 from oneorder.votes import answers
 
 WRONG, CLOSED, FULL, NOT_THERE = -22, -11, -28, -2
+NOT_RIGHT, NOT_CLOSED, NOTHING_LACKS = -71, -16, -11
 HIGHEST = 4294967295
 
 
@@ -24,6 +25,26 @@ def vb_again(number, at=0):
 
 def vo_start(candidates, booths):
     return [4, 0, candidates, booths]
+
+
+def vo_heard(numbers):
+    return [5, 0, len(numbers)] + list(numbers)
+
+
+def vo_lacks(booth):
+    return [6, 0, booth]
+
+
+def vo_prefer(x, y):
+    return [7, 0, x, y]
+
+
+def vo_order():
+    return [8, 0]
+
+
+def vo_against(row):
+    return [9, 0, len(row)] + list(row)
 
 
 def joined(calls):
@@ -56,6 +77,11 @@ def ranks_of(*ranks):
     return list(ranks) + [0] * (8 - len(ranks))
 
 
+def order_row(*order):
+    """A row of eight: these candidates, with 255 behind the last."""
+    return list(order) + [255] * (8 - len(order))
+
+
 def other_check(numbers):
     """CRC-32C by another way than the program's: one long division of mirrored bits, the high bit first."""
     bits = [(number >> place) & 1 for number in numbers for place in range(8)]
@@ -70,9 +96,13 @@ def other_check(numbers):
     return sum((bit ^ 1) << place for place, bit in enumerate(bits[-32:]))
 
 
+def checked(numbers):
+    """These sixteen numbers with the check that fits behind them."""
+    return list(numbers) + list(other_check(numbers).to_bytes(4, "little"))
+
+
 def message(kind, booth, number, row):
-    numbers = bytes([kind, booth, 0, 0]) + number.to_bytes(4, "little") + bytes(row)
-    return list(numbers + other_check(numbers).to_bytes(4, "little"))
+    return checked(bytes([kind, booth, 0, 0]) + number.to_bytes(4, "little") + bytes(row))
 
 
 def ballot(booth, number, ranks):
@@ -83,3 +113,19 @@ def ballot(booth, number, ranks):
 def closing(booth, ballots):
     """What is answered where this closing is told."""
     return [ballots] + message(2, booth, ballots, [0] * 8)
+
+
+def cast(booth, number, *ranks):
+    """The call by which the office hears this ballot."""
+    return vo_heard(message(1, booth, number, ranks_of(*ranks)))
+
+
+def shut(booth, ballots):
+    """The call by which the office hears this closing."""
+    return vo_heard(message(2, booth, ballots, [0] * 8))
+
+
+def look(candidates, booths):
+    """Calls that show what the office has, so far as any does without being heard."""
+    asked = [vo_prefer(x, y) for x in range(candidates) for y in range(candidates)]
+    return [vo_order()] + [vo_lacks(booth) for booth in range(booths)] + asked

@@ -60,13 +60,18 @@ def faults_of_text(text):
 
 
 def faults_of_top(tree):
+    defined = set()
     for node in tree.body:
+        if isinstance(node, ast.FunctionDef):
+            defined.add(node.name)
         if isinstance(node, ast.ImportFrom):
             if node.level or not (node.module or "").startswith("oneorder."):
                 yield node.lineno, "L2"
         elif isinstance(node, ast.Assign):
             for inner in ast.walk(node.value):
                 if isinstance(inner, (ast.Call, ast.Attribute, ast.Subscript, ast.ListComp, ast.Set)):
+                    yield node.lineno, "L3"
+                if isinstance(inner, ast.Name) and inner.id not in defined:
                     yield node.lineno, "L3"
         elif not isinstance(node, (ast.FunctionDef, ast.ClassDef)):
             if not (isinstance(node, ast.Expr) and isinstance(node.value, ast.Constant)):
@@ -101,12 +106,15 @@ def fault_of_node(node):
 
 
 def faults_of_names(tree, methods):
+    imported = {alias.name for node in tree.body if isinstance(node, ast.ImportFrom) for alias in node.names}
     for node, name in bound_names(tree):
         if name in DOUBLE:
             continue
         if not re.fullmatch(r"[A-Za-z][A-Za-z0-9_]*", name):
             yield node.lineno, "L12"
         if hasattr(builtins, name) and not isinstance(node, ast.Attribute):
+            yield node.lineno, "L15"
+        if name in imported and isinstance(node, (ast.Name, ast.arg)):
             yield node.lineno, "L15"
     for node in ast.walk(tree):
         if isinstance(node, ast.Call) and isinstance(node.func, ast.Attribute):

@@ -1,6 +1,7 @@
 import unittest
 
-from lists import HIGHEST, WRONG, ask, ballot, ranks_of, vb_again, vb_start, vb_vote, vo_start
+from lists import (HIGHEST, NOT_CLOSED, NOT_RIGHT, NOTHING_LACKS, WRONG, ask, ballot, cast, look, order_row, ranks_of,
+                   shut, vb_again, vb_start, vb_vote, vo_against, vo_lacks, vo_order, vo_prefer, vo_start)
 from oneorder.office import Office
 
 
@@ -33,6 +34,48 @@ class Start(unittest.TestCase):
         ranks = ranks_of(1, 2)
         got = ask(vb_start(5, 2), vb_vote(ranks), vo_start(3, 3), vb_again(0), vo_start(3, 9), vb_vote(ranks))
         self.assertEqual(got[2:], [[0], ballot(5, 0, ranks), [WRONG], ballot(5, 1, ranks)])
+
+
+class Again(unittest.TestCase):
+    """Point 5, by what the office tells afterwards."""
+
+    heard = [vo_start(3, 2), cast(0, 0, 3, 2, 1), cast(1, 1, 3, 2, 1), shut(0, 1), shut(1, 1), cast(1, 0, 3, 1, 1)]
+
+    def test_taken_has_heard_nothing(self):
+        for asked in ([], [vo_order()]):
+            got = ask(*self.heard, *asked, vo_start(3, 2), *look(3, 2))[len(self.heard) + len(asked):]
+            self.assertEqual(got, [[0], [0] + order_row(0, 1, 2), [NOT_CLOSED], [NOT_CLOSED]] + [[0]] * 9)
+
+    def test_taken_hears_all_anew(self):
+        later = self.heard[1:] + look(3, 2)
+        got = ask(*self.heard, vo_order(), vo_start(3, 2), *later)[len(self.heard) + 2:]
+        self.assertEqual(got, ask(vo_start(3, 2), *later)[1:])
+        self.assertEqual(got[:6], [[1]] * 5 + [[1] + order_row(2, 1, 0)])
+
+    def test_taken_has_other_candidates_and_booths(self):
+        got = ask(*self.heard, vo_order(), vo_start(4, 1), vo_order(), vo_lacks(0), vo_lacks(1), vo_prefer(3, 0),
+                  cast(0, 0, 3, 2, 1), cast(0, 0, 4, 3, 2, 1), cast(1, 0, 4, 3, 2, 1), vo_prefer(3, 0), vo_order(),
+                  vo_against(order_row(0, 1, 2)), vo_against(order_row(0, 1, 2, 3)))[len(self.heard) + 2:]
+        self.assertEqual(got, [[0] + order_row(0, 1, 2, 3), [NOT_CLOSED], [WRONG], [0], [NOT_RIGHT], [1], [NOT_RIGHT],
+                               [1], [0] + order_row(3, 2, 1, 0), [WRONG], [6]])
+
+    def test_taken_with_fewer_candidates(self):
+        got = ask(*self.heard, vo_order(), vo_start(2, 2), vo_order(), vo_prefer(2, 0), cast(1, 0, 3, 2, 1),
+                  cast(1, 0, 2, 1), vo_order())[len(self.heard) + 2:]
+        self.assertEqual(got, [[0] + order_row(0, 1), [WRONG], [NOT_RIGHT], [1], [0] + order_row(1, 0)])
+
+    def test_refused_leaves_all_as_it_was(self):
+        later = look(3, 2) + [cast(1, 2, 1, 2, 3), cast(0, 0, 3, 2, 1), shut(0, 9)] + look(3, 2)
+        want = ask(*self.heard, *later)[len(self.heard):]
+        self.assertEqual(want[:3], [[1] + order_row(2, 1, 0), [NOTHING_LACKS], [NOTHING_LACKS]])
+        for candidates, booths in ((1, 2), (9, 2), (3, 0), (3, 9), (0, 0), (HIGHEST, HIGHEST)):
+            got = ask(*self.heard, vo_start(candidates, booths), *later)[len(self.heard):]
+            self.assertEqual(got, [[WRONG]] + want, (candidates, booths))
+
+    def test_refused_first_and_taken_then(self):
+        got = ask(vo_start(9, 1), vo_start(2, 0), *self.heard, vo_order())
+        self.assertEqual(got[:3], [[WRONG], [WRONG], [0]])
+        self.assertEqual(got[-1], [1] + order_row(2, 1, 0))
 
 
 class Kept(unittest.TestCase):
